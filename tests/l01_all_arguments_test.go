@@ -1,21 +1,12 @@
 package tests
 
 import (
-	"fmt"
 	"math"
-	"reflect"
 	"strings"
 	"testing"
 
 	"loop.example/g01384/impl"
 )
-
-// call is a function of chapter 1, and whether its last result is a code.
-type call struct {
-	name string
-	fun  any
-	code bool
-}
 
 func chapter1() []call {
 	return []call{
@@ -99,9 +90,8 @@ func hostileTexts() []string {
 	return []string{"", "\n", "x", ":", line, line + line, strings.Repeat(line, 6), strings.Repeat(line, 7), "3: 0", "\x00\xff", strings.Repeat("9", 99) + ":"}
 }
 
-// pools has for each type the arguments that are tried.
-func pools() map[reflect.Type][]reflect.Value {
-	pool := map[reflect.Type][]reflect.Value{}
+func chapter1Pool() argumentPool {
+	pool := argumentPool{}
 	addPool(pool, hostileNumbers())
 	addPool(pool, hostileHeaps())
 	addPool(pool, hostileFractions())
@@ -112,114 +102,10 @@ func pools() map[reflect.Type][]reflect.Value {
 	return pool
 }
 
-func addPool[T any](pool map[reflect.Type][]reflect.Value, list []T) {
-	for _, v := range list {
-		pool[reflect.TypeFor[T]()] = append(pool[reflect.TypeFor[T]()], reflect.ValueOf(v))
-	}
-}
-
-// eachArguments visits all combinations of the pooled arguments of a function.
-func eachArguments(fun reflect.Type, pool map[reflect.Type][]reflect.Value, visit func([]reflect.Value)) {
-	args := make([]reflect.Value, fun.NumIn())
-	var choose func(i int)
-	choose = func(i int) {
-		if i == len(args) {
-			visit(args)
-			return
-		}
-		for _, v := range pool[fun.In(i)] {
-			args[i] = v
-			choose(i + 1)
-		}
-	}
-	choose(0)
-}
-
-// picture shows values; of a slice also what lies behind its end.
-func picture(values []reflect.Value) string {
-	list := make([]any, len(values))
-	for i, v := range values {
-		if v.Kind() == reflect.Slice {
-			v = v.Slice(0, v.Cap())
-		}
-		list[i] = v.Interface()
-	}
-	return fmt.Sprint(list...)
-}
-
-// isNone reports whether a result is zero; a slice may be empty.
-func isNone(v reflect.Value) bool {
-	if v.Kind() == reflect.Slice {
-		return v.Len() == 0
-	}
-	return v.IsZero()
-}
-
-// scribble overwrites the slices of results, unused capacity too, to see whether anything else shares their memory.
-func scribble(results []reflect.Value) {
-	for _, v := range results {
-		if v.Kind() != reflect.Slice {
-			continue
-		}
-		whole := v.Slice(0, v.Cap())
-		for i := range whole.Len() {
-			e := whole.Index(i)
-			e.SetZero()
-			if e.Kind() == reflect.Int64 {
-				e.SetInt(-77)
-			}
-		}
-	}
-}
-
-// checkCall makes one call twice and looks at what promise 1 says of it.
-func checkCall(t *testing.T, c call, args []reflect.Value) {
-	t.Helper()
-	before := picture(args)
-	fun := reflect.ValueOf(c.fun)
-	first := fun.Call(args)
-	shown := make([]string, len(first))
-	for i, v := range first {
-		shown[i] = fmt.Sprint(v.Interface())
-	}
-	if c.code {
-		checkCode(t, c.name, before, first)
-	}
-	scribble(first)
-	if after := picture(args); after != before {
-		t.Fatalf("%s modifies or gives out its arguments: %s became %s", c.name, before, after)
-	}
-	for i, v := range fun.Call(args) {
-		if again := fmt.Sprint(v.Interface()); again != shown[i] {
-			t.Fatalf("%s %s: result %d is %s, and then %s", c.name, before, i, shown[i], again)
-		}
-	}
-}
-
-func checkCode(t *testing.T, name, args string, results []reflect.Value) {
-	t.Helper()
-	last := len(results) - 1
-	code := results[last].Int()
-	if code == impl.OK {
-		return
-	}
-	if impl.CodeName(code) == "" {
-		t.Fatalf("%s %s: the code %d has no name", name, args, code)
-	}
-	for i, v := range results[:last] {
-		if !isNone(v) {
-			t.Fatalf("%s %s: result %d is %v beside the code %d", name, args, i, v, code)
-		}
-	}
-}
-
 // TestP1AllArguments: every function of chapter 1 returns for all arguments, modifies none, and returns equal results
 // for equal ones; beside a code other than OK all results are zero.
 func TestP1AllArguments(t *testing.T) {
-	pool := pools()
-	for _, c := range chapter1() {
-		eachArguments(reflect.TypeOf(c.fun), pool, func(args []reflect.Value) { checkCall(t, c, args) })
-	}
+	checkCalls(t, chapter1(), chapter1Pool())
 }
 
 // TestP1LargeArguments: arguments of a million elements are told off, too.
