@@ -41,14 +41,29 @@ func eachArguments(fun reflect.Type, pool argumentPool, visit func([]reflect.Val
 	choose(0)
 }
 
-// picture shows values; of a slice also what lies behind its end.
-func picture(values []reflect.Value) string {
-	list := make([]any, len(values))
-	for i, v := range values {
-		if v.Kind() == reflect.Slice {
-			v = v.Slice(0, v.Cap())
+// slicesIn returns the slices of a value with what lies behind their ends: the value itself, or the fields of a struct.
+func slicesIn(v reflect.Value) []reflect.Value {
+	switch v.Kind() {
+	case reflect.Slice:
+		return []reflect.Value{v.Slice(0, v.Cap())}
+	case reflect.Struct:
+		var list []reflect.Value
+		for i := range v.NumField() {
+			list = append(list, slicesIn(v.Field(i))...)
 		}
-		list[i] = v.Interface()
+		return list
+	}
+	return nil
+}
+
+// picture shows values; of slices also what lies behind their ends.
+func picture(values []reflect.Value) string {
+	var list []any
+	for _, v := range values {
+		list = append(list, v.Interface())
+		for _, whole := range slicesIn(v) {
+			list = append(list, whole.Interface())
+		}
 	}
 	return fmt.Sprint(list...)
 }
@@ -64,15 +79,13 @@ func isNone(v reflect.Value) bool {
 // scribble overwrites the slices of results, unused capacity too, to see whether anything else shares their memory.
 func scribble(results []reflect.Value) {
 	for _, v := range results {
-		if v.Kind() != reflect.Slice {
-			continue
-		}
-		whole := v.Slice(0, v.Cap())
-		for i := range whole.Len() {
-			e := whole.Index(i)
-			e.SetZero()
-			if e.Kind() == reflect.Int64 {
-				e.SetInt(-77)
+		for _, whole := range slicesIn(v) {
+			for i := range whole.Len() {
+				e := whole.Index(i)
+				e.SetZero()
+				if e.Kind() == reflect.Int64 {
+					e.SetInt(-77)
+				}
 			}
 		}
 	}
