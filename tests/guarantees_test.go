@@ -229,8 +229,8 @@ func TestP18NoFewerPieces(t *testing.T) {
 // TestP18NoFewerReels winds yarns onto reels, and looks at all numbers of fewer reels: none is right.
 func TestP18NoFewerReels(t *testing.T) {
 	r := newRandom()
-	for range 150 {
-		m, list, hold := randomMeets(r), randomStrands(r, 1+r.Intn(5), 40), 40+r.Int63n(60)
+	for range 400 {
+		m, list, hold := randomMeets(r), randomStrands(r, 1+r.Intn(6), 40), 40+r.Int63n(40)
 		numbers, _, code := impl.FewestReels(m, hold, list, impl.MaxReels)
 		mustBeOK(t, "wound", code)
 		right, code := impl.CheckReels(m, hold, list, numbers)
